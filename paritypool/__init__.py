@@ -1,0 +1,1 @@
+"""A pool of disks that survives crashes, lost disks and wrong writes."""

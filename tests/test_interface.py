@@ -1,0 +1,112 @@
+"""The names and arguments of the interface, its examples, and the form of the files."""
+
+import ast
+import builtins
+import doctest
+import importlib
+import inspect
+import pathlib
+import unittest
+
+PACKAGE = pathlib.Path(__file__).resolve().parent.parent / "paritypool"
+
+FUNCTIONS = {
+    "field": {"inverse": ["a"], "value_at": ["points", "x"]},
+}
+
+LIBRARY = {
+    "heapq": {"heappush", "heappop", "heapify", "heapreplace", "heappushpop"},
+    "math": {"gcd", "lcm", "isqrt", "comb", "perm", "factorial"},
+    "itertools": {"product", "combinations", "permutations", "chain", "accumulate", "pairwise", "islice",
+                  "zip_longest"},
+    "collections": {"defaultdict"},
+}
+
+BUILTINS = set(
+    "len range enumerate zip min max sum abs sorted reversed int str bool bytes list tuple dict set frozenset"
+    " isinstance ord repr any all divmod pow getattr hasattr setattr iter next property staticmethod classmethod"
+    " super Exception ValueError TypeError KeyError IndexError LookupError ZeroDivisionError ArithmeticError"
+    " OverflowError RuntimeError NotImplementedError AttributeError StopIteration NotImplemented".split()
+)
+
+
+def load_tests(loader, tests, pattern):
+    tests.addTests(doctest.DocFileSuite("interface_examples.txt"))
+    return tests
+
+
+def sources():
+    """The path, the text and the syntax tree of each file of the package."""
+    for path in sorted(PACKAGE.rglob("*.py")):
+        text = path.read_bytes().decode("utf-8")
+        yield path, text, ast.parse(text)
+
+
+class Interface(unittest.TestCase):
+    def test_each_function_is_defined_in_its_file_with_its_arguments(self):
+        for file_name, functions in FUNCTIONS.items():
+            module = importlib.import_module("paritypool." + file_name)
+            for name, arguments in functions.items():
+                with self.subTest(file_name + "." + name):
+                    function = getattr(module, name)
+                    self.assertTrue(inspect.isfunction(function))
+                    self.assertEqual(function.__module__, "paritypool." + file_name)
+                    self.assertEqual(list(inspect.signature(function).parameters), arguments)
+
+
+class Files(unittest.TestCase):
+    """The rules of the language that are easily checked."""
+
+    def test_the_package_contains_only_python_files(self):
+        for path in PACKAGE.rglob("*"):
+            if path.name != "__pycache__" and path.parent.name != "__pycache__":
+                self.assertEqual(path.suffix, ".py", path)
+
+    def test_sizes_and_characters(self):
+        for path, text, tree in sources():
+            lines = text.split("\n")
+            self.assertLessEqual(len(lines), 400, path)
+            for line in lines:
+                self.assertLessEqual(len(line), 120, path)
+                self.assertTrue(all(" " <= character <= "~" for character in line), (path, line))
+            for node in ast.walk(tree):
+                if isinstance(node, ast.FunctionDef):
+                    self.assertLessEqual(node.end_lineno - node.lineno + 1, 40, (path, node.name))
+
+    def test_imports_name_the_file_that_defines_the_name(self):
+        for path, _, tree in sources():
+            for node in ast.walk(tree):
+                self.assertNotIsInstance(node, ast.Import, path)
+                if isinstance(node, ast.ImportFrom):
+                    self.check_import(path, node)
+
+    def check_import(self, path, node):
+        for each in node.names:
+            self.assertIsNone(each.asname, path)
+            if node.module in LIBRARY:
+                self.assertIn(each.name, LIBRARY[node.module], path)
+                continue
+            self.assertTrue(node.module.startswith("paritypool."), path)
+            found = getattr(importlib.import_module(node.module), each.name)
+            self.assertEqual(getattr(found, "__module__", node.module), node.module, path)
+
+    def test_only_the_allowed_builtins_are_used(self):
+        barred = set(dir(builtins)) - BUILTINS
+        for path, _, tree in sources():
+            for node in ast.walk(tree):
+                if isinstance(node, ast.Name):
+                    self.assertNotIn(node.id, barred, path)
+
+    def test_no_floats_and_no_barred_words(self):
+        barred = (ast.Div, ast.Global, ast.AsyncFunctionDef)
+        for path, _, tree in sources():
+            for node in ast.walk(tree):
+                self.assertNotIsInstance(node, barred, path)
+                if isinstance(node, ast.Constant):
+                    self.assertNotIsInstance(node.value, float, path)
+                    if isinstance(node.value, str):
+                        self.assertNotIn("%", node.value, path)
+
+
+if __name__ == "__main__":
+    unittest.main()
