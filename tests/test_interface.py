@@ -1,4 +1,4 @@
-"""The names and arguments of the interface, its examples, and the form of the files."""
+"""The names and arguments of the interface, its examples and those of README.md, and the form of the files."""
 
 import ast
 import builtins
@@ -12,6 +12,12 @@ PACKAGE = pathlib.Path(__file__).resolve().parent.parent / "paritypool"
 
 FUNCTIONS = {
     "field": {"inverse": ["a"], "value_at": ["points", "x"]},
+    "polynomial": {"plus": ["first", "second"], "times": ["first", "second"], "divide": ["first", "second"],
+                   "evaluate": ["polynomial", "x"], "through": ["points"]},
+    "linear": {"solve": ["rows", "right"]},
+    "erasure": {"encode": ["pieces", "parity"], "recover": ["pieces", "data"], "consistent": ["pieces", "data"],
+                "wrong_pieces": ["pieces", "data"]},
+    "packing": {"pack": ["value"], "unpack": ["words"]},
 }
 
 LIBRARY = {
@@ -31,7 +37,7 @@ BUILTINS = set(
 
 
 def load_tests(loader, tests, pattern):
-    tests.addTests(doctest.DocFileSuite("interface_examples.txt"))
+    tests.addTests(doctest.DocFileSuite("interface_examples.txt", "../README.md"))
     return tests
 
 
