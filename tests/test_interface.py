@@ -18,6 +18,26 @@ FUNCTIONS = {
     "erasure": {"encode": ["pieces", "parity"], "recover": ["pieces", "data"], "consistent": ["pieces", "data"],
                 "wrong_pieces": ["pieces", "data"]},
     "packing": {"pack": ["value"], "unpack": ["words"]},
+    "sector": {"check_words": ["words"], "seal": ["kind", "disk", "row", "stamp", "payload"],
+               "unseal": ["sector", "kind", "disk", "row"]},
+    "stripes": {"choose_disks": ["candidates", "width"],
+                "write_stripe": ["images", "places", "stamp", "words", "data"],
+                "read_stripe": ["images", "places", "stamp", "length", "data"],
+                "repair_stripe": ["images", "places", "stamp", "length", "data"]},
+    "labels": {"label_requests": ["images", "label", "disks"], "find_label": ["images"], "arrange": ["disks"],
+               "outdated_disks": ["images", "label"]},
+}
+
+# For each class, the methods that the interface lists for it.
+CLASSES = {
+    "space": {"Space": {
+        "__init__": "(self, rows, first)", "take": "(self)", "claim": "(self, row)", "give": "(self, row)",
+        "settle": "(self)", "free_count": "(self)", "used_rows": "(self)", "waiting_rows": "(self)",
+    }},
+    "labels": {"Label": {
+        "__init__": "(self, *, pool, epoch, group, data, parity, rows, members, spares=(), notes=None, root=None)",
+        "stamp": "(self)",
+    }},
 }
 
 LIBRARY = {
@@ -59,6 +79,18 @@ class Interface(unittest.TestCase):
                     self.assertEqual(function.__module__, "paritypool." + file_name)
                     self.assertEqual(list(inspect.signature(function).parameters), arguments)
 
+    def test_each_class_is_defined_in_its_file_with_its_methods(self):
+        for file_name, classes in CLASSES.items():
+            module = importlib.import_module("paritypool." + file_name)
+            for name, methods in classes.items():
+                found = getattr(module, name)
+                self.assertTrue(inspect.isclass(found))
+                self.assertEqual(found.__module__, "paritypool." + file_name)
+                for method, signature in methods.items():
+                    with self.subTest(file_name + "." + name + "." + method):
+                        self.assertTrue(inspect.isfunction(vars(found)[method]))
+                        self.assertEqual(str(inspect.signature(vars(found)[method])), signature)
+
 
 class Files(unittest.TestCase):
     """The rules of the language that are easily checked."""
@@ -95,6 +127,15 @@ class Files(unittest.TestCase):
             self.assertTrue(node.module.startswith("paritypool."), path)
             found = getattr(importlib.import_module(node.module), each.name)
             self.assertEqual(getattr(found, "__module__", node.module), node.module, path)
+
+    def test_no_files_import_from_each_other(self):
+        imported = {"paritypool." + path.stem: [node.module for node in tree.body if isinstance(node, ast.ImportFrom)]
+                    for path, _, tree in sources()}
+        while imported:
+            ready = [name for name, others in imported.items() if not any(other in imported for other in others)]
+            self.assertTrue(ready, imported)
+            for name in ready:
+                del imported[name]
 
     def test_only_the_allowed_builtins_are_used(self):
         barred = set(dir(builtins)) - BUILTINS

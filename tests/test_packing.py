@@ -3,6 +3,7 @@ import itertools
 import random
 import unittest
 
+from helpers import same_kinds
 from paritypool.errors import BadPacking
 from paritypool.packing import pack, unpack
 
@@ -42,15 +43,6 @@ def most_words(value):
     return 3 + sum(most_words(part) for part in value)
 
 
-def same(first, second):
-    """Equal, and of the same kinds all through."""
-    if type(first) is not type(second):
-        return False
-    if isinstance(first, (list, tuple)):
-        return len(first) == len(second) and all(same(a, b) for a, b in zip(first, second))
-    return first == second
-
-
 def some_value(chosen, depth):
     kind = chosen.randrange(9 if depth else 6)
     if kind == 0:
@@ -83,10 +75,10 @@ class Packing(unittest.TestCase):
             self.assertIs(type(word), int)
             self.assertTrue(0 <= word <= 65520)
         self.assertLessEqual(len(words), most_words(value))
-        self.assertTrue(same(value, before))
+        self.assertTrue(same_kinds(value, before))
         self.assertEqual(pack(value), words)
         copied = list(words)
-        self.assertTrue(same(unpack(words), value))
+        self.assertTrue(same_kinds(unpack(words), value))
         self.assertEqual(words, copied)
         return words
 
@@ -142,7 +134,7 @@ class Packing(unittest.TestCase):
         # A list that another one begins with comes directly before some list that begins so.
         for (first, one), (second, other) in zip(ordered, ordered[1:]):
             if second[:len(first)] == first:
-                self.assertTrue(same(values[one], values[other]), (values[one], values[other]))
+                self.assertTrue(same_kinds(values[one], values[other]), (values[one], values[other]))
 
     def test_kinds_stay_what_they_are(self):
         self.assertNotEqual(pack(True), pack(1))
