@@ -26,6 +26,9 @@ FUNCTIONS = {
                 "repair_stripe": ["images", "places", "stamp", "length", "data"]},
     "labels": {"label_requests": ["images", "label", "disks"], "find_label": ["images"], "arrange": ["disks"],
                "outdated_disks": ["images", "label"]},
+    "journal": {"note_places": ["words"], "note_requests": ["images", "disks", "stamp", "first", "words"],
+                "read_notes": ["images", "disks", "stamp"]},
+    "schedule": {"schedule": ["requests"]},
 }
 
 # For each class, the methods that the interface lists for it.
@@ -37,6 +40,12 @@ CLASSES = {
     "labels": {"Label": {
         "__init__": "(self, *, pool, epoch, group, data, parity, rows, members, spares=(), notes=None, root=None)",
         "stamp": "(self)",
+    }},
+    "store": {"Store": {
+        "__init__": "(self, *, data, parity, rows, members, epoch)", "look": "(self, images)",
+        "claim": "(self, pointers)", "put": "(self, words, *, avoid=())", "get": "(self, pointer)",
+        "commit": "(self, live)", "trim": "(self, live)", "repairs": "(self, live)", "add_member": "(self, disk)",
+        "drop_member": "(self, disk)", "free_counts": "(self)",
     }},
 }
 
