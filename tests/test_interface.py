@@ -29,6 +29,11 @@ FUNCTIONS = {
     "journal": {"note_places": ["words"], "note_requests": ["images", "disks", "stamp", "first", "words"],
                 "read_notes": ["images", "disks", "stamp"]},
     "schedule": {"schedule": ["requests"]},
+    "btree": {"find": ["store", "root", "key"], "insert": ["store", "root", "key", "value"],
+              "remove": ["store", "root", "key"], "scan": ["store", "root", "low", "high"],
+              "blocks": ["store", "root"], "differences": ["store", "first", "second"],
+              "evacuate": ["store", "root", "disks", "moved"]},
+    "paths": {"is_name": ["text"], "is_path": ["text"], "ways": ["path"], "moved_path": ["path", "old", "new"]},
 }
 
 # For each class, the methods that the interface lists for it.
@@ -46,6 +51,20 @@ CLASSES = {
         "claim": "(self, pointers)", "put": "(self, words, *, avoid=())", "get": "(self, pointer)",
         "commit": "(self, live)", "trim": "(self, live)", "repairs": "(self, live)", "add_member": "(self, disk)",
         "drop_member": "(self, disk)", "free_counts": "(self)",
+    }},
+    "tree": {"Tree": {
+        "__init__": "(self, store, root)", "make_directory": "(self, path)", "create": "(self, path)",
+        "write": "(self, path, at, words)", "truncate": "(self, path, size)", "remove": "(self, path)",
+        "rename": "(self, old, new)", "copy": "(self, old, new)", "read": "(self, path, at, count)",
+        "listing": "(self, path)", "describe": "(self, path)", "usage": "(self)", "contents": "(self)",
+    }},
+    "catalog": {"Catalog": {
+        "__init__": "(self, store, root)", "sets": "(self)", "new_set": "(self, name)",
+        "tree_root": "(self, name, snap=None)", "set_root": "(self, name, root)", "limit": "(self, name)",
+        "set_limit": "(self, name, pages)", "snapshots": "(self, name)",
+        "snapshot": "(self, name, snap, identity)", "clone": "(self, name, snap, new)",
+        "rollback": "(self, name, snap)", "drop_snapshot": "(self, name, snap)", "drop_set": "(self, name)",
+        "live": "(self)", "evacuate": "(self, disks, moved)",
     }},
 }
 

@@ -1,0 +1,21 @@
+"""Pages: the content of a file in parts of 16 words."""
+
+from paritypool.limits import PAGE
+
+
+def page_count(size):
+    """Return the number of the pages of a content with this many words, also of the begun ones."""
+    return (size + PAGE - 1) // PAGE
+
+
+def resized(words, size):
+    """Return the words, cut or filled with zeros to the size."""
+    return [*words[:size], *([0] * (size - len(words)))]
+
+
+def without_end_zeros(words):
+    """Return the words without the zeros at their end."""
+    length = len(words)
+    while length > 0 and words[length - 1] == 0:
+        length -= 1
+    return words[:length]
