@@ -95,10 +95,14 @@ class Catalog:
     def live(self):
         """Return the list of the pointers of all blocks of the catalog's map and of all trees, each once."""
         found = {}
+        self.add_live(found)
+        return list(found)
+
+    def add_live(self, found):
+        """Add all blocks of the catalog's map and of all trees to the keys of the dict."""
         add_blocks(self.store, self.root, found)
         for _, value in self._pairs():
             add_blocks(self.store, value[-1], found)
-        return list(found)
 
     def evacuate(self, disks, moved):
         """Evacuate the catalog's map and all trees from the disks."""

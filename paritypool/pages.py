@@ -19,3 +19,12 @@ def without_end_zeros(words):
     while length > 0 and words[length - 1] == 0:
         length -= 1
     return words[:length]
+
+
+def with_pages(words, size, pages):
+    """Return the words, cut or filled with zeros to the size, with other pages. These are a list of tuples of the
+    number of a page and its words."""
+    content = resized(words, size)
+    for number, page in pages:
+        content[number * PAGE:number * PAGE + len(page)] = page
+    return content

@@ -8,7 +8,7 @@ without other words is not stored. So trees with the same contents are maps with
 from paritypool.btree import change_pairs, find, scan
 from paritypool.errors import AlreadyExists, InvalidArgument, IsDirectory, NotDirectory, NotEmpty, NotFound, TooLong
 from paritypool.limits import MAX_PATH, PAGE
-from paritypool.pages import page_count, resized, without_end_zeros
+from paritypool.pages import page_count, resized, with_pages, without_end_zeros
 from paritypool.paths import moved_path, ways
 
 ENTRY = -1
@@ -138,9 +138,7 @@ class Tree:
             if kind == "file":
                 size, pages = more
                 old = 0 if before is None or before == DIRECTORY else before
-                content = resized(self._words(path, 0, page_count(old)), size)
-                for number, words in pages:
-                    content[number * PAGE:number * PAGE + len(words)] = words
+                content = with_pages(self._words(path, 0, page_count(old))[:old], size, pages)
                 for key, page in page_changes(path, 0, content).items():
                     values[key] = page
                 values[(path, ENTRY)] = size

@@ -33,6 +33,11 @@ FUNCTIONS = {
               "remove": ["store", "root", "key"], "scan": ["store", "root", "low", "high"],
               "blocks": ["store", "root"], "differences": ["store", "first", "second"],
               "evacuate": ["store", "root", "disks", "moved"]},
+    "stream": {"changes": ["old", "new"], "apply_changes": ["old", "changed"],
+               "seal_stream": ["base", "identity", "changed"], "unseal_stream": ["words"]},
+    "calls": {"check_call": ["call"]},
+    "audit": {"audit": ["images"]},
+    "system": {"create": ["disks", "rows", "data", "parity", "pool", "epoch"], "mount": ["images", "epoch"]},
     "paths": {"is_name": ["text"], "is_path": ["text"], "ways": ["path"], "moved_path": ["path", "old", "new"]},
 }
 
@@ -66,6 +71,7 @@ CLASSES = {
         "rollback": "(self, name, snap)", "drop_snapshot": "(self, name, snap)", "drop_set": "(self, name)",
         "live": "(self)", "evacuate": "(self, disks, moved)",
     }},
+    "system": {"System": {"perform": "(self, images, call)", "free_counts": "(self)"}},
 }
 
 LIBRARY = {
@@ -106,6 +112,10 @@ class Interface(unittest.TestCase):
                     self.assertTrue(inspect.isfunction(function))
                     self.assertEqual(function.__module__, "paritypool." + file_name)
                     self.assertEqual(list(inspect.signature(function).parameters), arguments)
+
+    def test_create_takes_only_keywords(self):
+        module = importlib.import_module("paritypool.system")
+        self.assertEqual(str(inspect.signature(module.create)), "(*, disks, rows, data, parity, pool, epoch)")
 
     def test_each_class_is_defined_in_its_file_with_its_methods(self):
         for file_name, classes in CLASSES.items():
