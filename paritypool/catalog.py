@@ -66,7 +66,7 @@ class Catalog:
         _, root = self._set(name)
         if find(self.store, self.root, snapshot_key(name, snap)) is not None:
             raise AlreadyExists("the set has a snapshot with this name")
-        number = max([number for number, _, _ in self._numbered(name)], default=-1) + 1
+        number = max([each for each, _, _ in self._numbered(name)], default=-1) + 1
         self._change({snapshot_key(name, snap): (number, identity, root)})
 
     def clone(self, name, snap, new):

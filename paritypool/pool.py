@@ -91,7 +91,8 @@ class Pool:
     def make_file_call(self, call):
         """Make a file call, which may be atomic, and keep it for the journal."""
         catalog = self.catalog()
-        for part in call[1] if call[0] == "atomic" else [call]:
+        parts = call[1] if call[0] == "atomic" else [call]
+        for part in parts:
             self.make_part(catalog, part)
         self.root = catalog.root
         self.pending.append(own_copy(call))

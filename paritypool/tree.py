@@ -56,7 +56,7 @@ class Tree:
         first = at // PAGE
         content = self._words(path, first, page_count(end))
         content[at - first * PAGE:end - first * PAGE] = words
-        self._change({**page_changes(path, first, content), (path, ENTRY): max(size, end)})
+        self._change_file(path, max(size, end), first, content)
 
     def truncate(self, path, size):
         """Give the file another size."""
@@ -64,7 +64,7 @@ class Tree:
         first = size // PAGE
         content = self._words(path, first, page_count(before))
         kept = resized(content[:size - first * PAGE], len(content))
-        self._change({**page_changes(path, first, kept), (path, ENTRY): size})
+        self._change_file(path, size, first, kept)
 
     def remove(self, path):
         """Remove a file or an empty directory."""
@@ -148,6 +148,12 @@ class Tree:
         """Give the keys of the map these values, or remove those whose value is None."""
         self.root = change_pairs(self.store, self.root, values)
 
+    def _change_file(self, path, size, first, words):
+        """Give a file this size, and give its pages from the first one on these words."""
+        values = page_changes(path, first, words)
+        values[(path, ENTRY)] = size
+        self._change(values)
+
     def _entry(self, path):
         """Return the value for a directory or a file, or None if the path does not exist."""
         return DIRECTORY if path == "" else find(self.store, self.root, (path, ENTRY))
@@ -178,8 +184,6 @@ class Tree:
 
     def _make(self, path, entry):
         """Make a directory or an empty file."""
-        if path == "":
-            raise AlreadyExists("the root directory is there")
         self._check_new(path)
         self._change({(path, ENTRY): entry})
 

@@ -1,7 +1,7 @@
 import unittest
 
 from helpers import blank, carry_out, same_kinds, seeded
-from paritypool.btree import blocks, differences, evacuate, find, insert, remove, scan
+from paritypool.btree import blocks, change_pairs, differences, evacuate, find, insert, remove, scan
 from paritypool.errors import Damaged, InvalidArgument, NoSpace, NotEnoughDisks
 from paritypool.store import Store
 
@@ -64,8 +64,10 @@ class Compared(unittest.TestCase):
 
     def run_changes(self, store, root, table, changes, known=()):
         """Make the changes, each a key and a value or None, and check after each one."""
-        keys = [*known, *table]
+        keys = list(dict.fromkeys([*known, *table]))
         for key, value in changes:
+            if key in keys:
+                keys.remove(key)
             keys.append(key)
             if value is None:
                 new = remove(store, root, key)
@@ -76,7 +78,9 @@ class Compared(unittest.TestCase):
                 new = insert(store, root, key, value)
                 table[key] = value
             root = new
-            self.check(store, root, table, keys[-20:] + list(table)[::7])
+            # Of many keys, only some are asked for each time.
+            some = len(keys) // 60 + 1
+            self.check(store, root, table, keys[-1:] + keys[len(keys) * 7 % some::some])
         self.check(store, root, table, keys)
         return root
 
@@ -211,6 +215,58 @@ class Sharing(unittest.TestCase):
         self.assertEqual(scan(store, root, LOWEST, HIGHEST), [(("a", 0), [1, [2, 3], ("a", [4])])])
         self.assertEqual(differences(store, root, other), [(("a", 0), [1, [2, 3], ("a", [4])], 5)])
         self.assertEqual(blocks(store, root), [root])
+
+
+class Fill(unittest.TestCase):
+    """Blocks stay well filled, so that maps stay flat whatever was removed."""
+
+    def check(self, store, root, words):
+        all_blocks = blocks(store, root)
+        self.assertLessEqual(len(all_blocks), 2 + words // 200)
+        for pointer in all_blocks:
+            if pointer != root:
+                self.assertGreaterEqual(pointer[2], 200)
+
+    def test_removing_pairs_in_any_order(self):
+        for seed in range(6):
+            chosen = seeded(seed)
+            store = new_store()
+            keys = [("k" * chosen.randrange(40), number) for number in range(300)]
+            size = chosen.choice([1, 20, 140])
+            root = build(store, {key: [7] * size for key in keys})
+            self.check(store, root, 300 * (size + 60))
+            order = chosen.choice([sorted(keys), sorted(keys)[::-1], chosen.sample(keys, 300), keys])
+            for many, key in enumerate(order):
+                root = remove(store, root, key)
+                if root is not None:
+                    self.check(store, root, (299 - many) * (size + 60))
+            self.assertIsNone(root)
+
+    def test_many_changes_at_once(self):
+        for seed in range(20):
+            chosen = seeded(seed)
+            store, table = new_store(), {("k", number): [number] * 90 for number in range(150)}
+            root = change_pairs(store, None, table)
+            for _ in range(8):
+                changes = {("k", number): chosen.choice([None, None, 5, [1] * 140])
+                           for number in chosen.sample(range(200), chosen.choice([1, 20, 150]))}
+                table.update(changes)
+                table = {key: value for key, value in table.items() if value is not None}
+                before = store.puts
+                root = change_pairs(store, root, changes)
+                self.assertEqual(scan(store, root, LOWEST, HIGHEST), pairs_of(table))
+                if root is not None:
+                    self.assertLessEqual(store.puts - before, len(blocks(store, root)) + 3)
+                    self.check(store, root, len(table) * 160)
+            root = change_pairs(store, root, {key: None for key in table})
+            self.assertIsNone(root)
+
+    def test_new_blocks_avoid_disks(self):
+        store = new_store(disks=4)
+        root = change_pairs(store, None, {("k", number): [number] * 90 for number in range(60)}, avoid=[0, 2])
+        self.assertEqual({disk for pointer in blocks(store, root) for disk, _ in pointer[3]}, {1, 3})
+        root = change_pairs(store, root, {("k", 30): None, ("k", 31): 5}, avoid=(0, 2))
+        self.assertEqual({disk for pointer in blocks(store, root) for disk, _ in pointer[3]}, {1, 3})
 
 
 class Scan(unittest.TestCase):
@@ -411,6 +467,18 @@ class Evacuate(unittest.TestCase):
         late._made = 65521 * 65521 - 50
         moved = self.check(late, [root], [1, 3])
         self.assertGreater(len(moved), 3)
+
+    def test_blocks_below_are_not_read_without_need(self):
+        store = new_store(disks=2)
+        store.look(blank(2, 4000))
+        root = change_pairs(store, None, {("k", number): [number] * 100 for number in range(80)}, avoid=[1])
+        leaves = [pointer for pointer in blocks(store, root) if store.get(pointer)[0] == 0]
+        self.assertGreater(len(leaves), 8)
+        store.gets = 0
+        self.assertEqual(len(blocks(store, root)), len(leaves) + store.gets)
+        store.gets = 0
+        self.assertEqual(evacuate(store, root, [1], {}), root)
+        self.assertLess(store.gets, len(leaves))
 
     def test_too_few_members_left(self):
         store = Store(data=2, parity=1, rows=100, members=[0, 1, 2, 3], epoch=1)

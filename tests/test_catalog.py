@@ -102,6 +102,25 @@ class AgainstAModel(unittest.TestCase):
             self.assertIs(both(catalog, model, *call), error, call)
 
 
+    def test_all_names_of_each_method(self):
+        catalog, model = new_catalog(), CatalogModel()
+        for call in [("new_set", "a"), ("new_set", "b"), ("snapshot", "a", "s", (1, 2, 3)), ("snapshot", "a", "t", (1, 2, 4)),
+                     ("snapshot", "b", "t", (1, 2, 5)), ("new_set", "ab"), ("set_limit", "b", 0)]:
+            both(catalog, model, *call)
+        names, snaps = ["a", "b", "ab", "x"], ["s", "t", "x"]
+        calls = [(method, name) for method in ("new_set", "drop_set", "limit", "snapshots", "tree_root") for name in names]
+        for name in names:
+            calls += [(method, name, snap) for method in ("rollback", "drop_snapshot", "tree_root") for snap in snaps]
+            calls += [("snapshot", name, snap, (9, 9, 9)) for snap in snaps]
+            calls += [("clone", name, snap, new) for snap in snaps for new in names]
+            calls += [("set_limit", name, None), ("set_root", name, None)]
+        for call in calls:
+            other, plain = Catalog(catalog.store, catalog.root), copy.deepcopy(model)
+            both(other, plain, *call)
+            self.assertEqual(state(other), state(plain), call)
+            self.assertEqual(state(catalog), state(model), call)
+
+
 class Snapshots(unittest.TestCase):
     def test_they_stand_in_the_order_in_which_they_were_made(self):
         catalog = new_catalog()

@@ -164,6 +164,8 @@ class Damaging(unittest.TestCase):
                 self.assertIn(result(machine.system.perform, images, call), (Damaged, NotEnoughDisks))
         for images in ([None, None, None], []):
             self.assertIs(result(machine.system.perform, images, ("sync",)), NotEnoughDisks)
+            # Also where there is no new block.
+            self.assertIs(result(Machine(disks=2, data=1).system.perform, images, ("commit",)), NotEnoughDisks)
         machine.check_state()
         machine.do("sync")
         self.assertEqual(len(machine.requests), 4)

@@ -207,6 +207,31 @@ class Heal(unittest.TestCase):
         machine.check_state()
 
 
+    def test_a_call_that_fails_when_some_blocks_are_moved(self):
+        machine = Machine(disks=3, data=2, parity=1, rows=400, more_disks=1)
+        for name in ("a", "b", "c"):
+            machine.do("new_set", name)
+            machine.do("create", name, "f" + name)
+            machine.do("commit")
+        machine.do("add", 3)
+        machine.mount()
+        free, kept = machine.system.free_counts(), [list(rows) for rows in machine.images]
+        live = [row for disk, row in audit([kept[0], [None] * 400, *kept[2:]]) if row >= 18]
+        self.assertEqual(len(live), 4)
+        for row in live:
+            # One block after the other cannot be read.
+            images = [None, list(kept[1]), kept[2], kept[3]]
+            images[1][row] = None
+            self.assertIs(result(machine.system.perform, images, ("heal",)), Damaged)
+            self.assertEqual(machine.system._pool.store.members, [0, 1, 2])
+        machine.images[:] = kept
+        machine.do("status")
+        self.assertEqual(machine.system.free_counts(), free)
+        machine.images[0] = None
+        self.assertEqual(machine.do("heal"), 1)
+        machine.check_state()
+
+
 class Scrub(unittest.TestCase):
     def test_the_number_of_rewritten_sectors(self):
         machine = filled(rows=300)
@@ -321,6 +346,22 @@ class Audit(unittest.TestCase):
         self.assertIn((0, find_label(machine.images).group % 2), found)
         self.assertEqual({disk for disk, _ in found}, {0})
         self.assertEqual(len(found), len(set(found)))
+
+    def test_a_block_below_others_that_cannot_be_read(self):
+        machine = Machine(rows=400)
+        machine.do("new_set", "a")
+        machine.do("create", "a", "f")
+        machine.do("write", "a", "f", 0, list(range(1, 3000)))
+        machine.do("commit")
+        errors = 0
+        for row in range(18, 400):
+            if machine.images[0][row] is not None and machine.images[1][row] is not None:
+                images = [list(rows) for rows in machine.images]
+                images[0][row] = images[1][row] = None
+                found = result(audit, images)
+                errors += found is Damaged
+                self.assertIn(found, (Damaged, []))
+        self.assertGreater(errors, 6)
 
     def test_errors(self):
         machine = filled()

@@ -3,7 +3,7 @@
 import copy
 import unittest
 
-from drawn import SETS, any_call, atomic_call, file_call, set_call, transaction_call, tree_question, warm_calls
+from drawn import SETS, any_call, atomic_call, file_call, set_call, transaction_call, warm_calls
 from helpers import carry_out, seeded, some_words
 from pool_model import Machine, check_requests, make_checkpoint, result, state
 from paritypool.errors import NoSpace
@@ -130,6 +130,32 @@ class LittleRoom(unittest.TestCase):
             for number in range(60):
                 self.assertIsNone(machine.do("write", "a", "f", number, [number + 1]))
         machine.check_state()
+
+    def test_set_calls_find_the_room_that_file_calls_left_behind(self):
+        for call in (("new_set", "b"), ("snapshot", "a", "s"), ("limit", "a", 9), ("checkpoint",), ("add", 3)):
+            machine = Machine(rows=64, more_disks=1)
+            for each in [("new_set", "a"), ("create", "a", "f")]:
+                machine.do(*each)
+            number = 0
+            while min(free for _, free in machine.system._pool.store.free_counts()) > 0:
+                number += 1
+                machine.do("write", "a", "f", number, [number])
+            self.assertIsNone(machine.do(*call))
+            machine.check_state()
+
+    def test_free_rows_depend_on_the_state_alone(self):
+        machine = Machine(rows=64)
+        for each in [("new_set", "a"), ("create", "a", "f"), ("write", "a", "f", 0, [1])]:
+            machine.do(*each)
+        free = machine.system.free_counts()
+        for number in range(40):
+            machine.do("write", "a", "f", 0, [number])
+            self.assertEqual(machine.system.free_counts(), free)
+        machine.do("commit")
+        machine.mount()
+        machine.do("create", "a", "g")
+        result(machine.system.perform, [None, None, None], ("usage", "a"))
+        self.assertEqual([disk for disk, _ in machine.system.free_counts()], [0, 1, 2])
 
     def test_no_space_changes_nothing(self):
         for seed in range(3):
@@ -297,6 +323,16 @@ class FewRequests(unittest.TestCase):
         machine.do("create", "a", "again")
         machine.do("sync")
         self.assertEqual([request[2] for request in machine.requests[:-1]], [2, 2, 2])
+
+    def test_a_note_before_the_first_commit(self):
+        for call in (("atomic", []), ("finish", 0)):
+            machine = Machine(disks=2, data=1, parity=1)
+            machine.do("begin")
+            machine.do(*call)
+            machine.do("sync")
+            self.assertEqual([request[:3] for request in machine.requests], [("write", 0, 2), ("write", 1, 2), ("flush",)])
+            machine.mount()
+            machine.check_state()
 
     def test_a_big_note_is_a_commit(self):
         chosen = seeded(1)

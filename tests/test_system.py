@@ -228,6 +228,45 @@ class WithoutFaults(unittest.TestCase):
             self.assertIs(result(system.perform, images, call), error, call)
 
 
+    def test_the_same_calls_request_the_same(self):
+        told = []
+        for _ in range(2):
+            chosen, machine = seeded(17), Machine(rows=500)
+            told.append([])
+            for call in warm_calls(chosen):
+                told[-1].append((machine.do(*call), machine.requests))
+            for _ in range(80):
+                told[-1].append((machine.do(*any_call(chosen, numbers=machine.model.transactions)), machine.requests))
+        self.assertEqual(told[0], told[1])
+
+    def test_answers_before_requests_are_carried_out(self):
+        system, _ = create(disks=3, rows=100, data=2, parity=1, pool=5, epoch=1)
+        images = blank(3, 100)
+        for call in [("new_set", "a"), ("create", "a", "f"), ("write", "a", "f", 0, [5, 6]), ("snapshot", "a", "s"),
+                     ("new_set", "b"), ("truncate", "a", "f", 1), ("commit",), ("clone", "a", "s", "c"),
+                     ("drop_set", "b")]:
+            self.assertIsNone(system.perform(images, call)[0])
+        self.assertEqual(system.perform(images, ("sets",)), (["a", "c"], []))
+        self.assertEqual(system.perform(images, ("read", "a", "f", 0, 9)), ([5], []))
+        found = system.perform(images, ("read", "c", "f", 0, 9))[0]
+        self.assertEqual(found, [5, 6])
+        found.clear()
+        self.assertEqual(system.perform(images, ("read", "a@s", "f", 0, 9)), ([5, 6], []))
+        # What is not live any more is not kept.
+        store = system._pool.store
+        self.assertEqual(sorted(store._kept), sorted(system._pool.live()))
+
+    def test_two_systems_beside_each_other(self):
+        first, second = Machine(), Machine()
+        chosen = seeded(18)
+        for call in warm_calls(chosen):
+            first.do(*call)
+        self.assertEqual(second.do("sets"), [])
+        second.do("new_set", "z")
+        first.check_state()
+        second.check_state()
+
+
 class Limits(unittest.TestCase):
     def test_over_limit(self):
         machine = Machine()

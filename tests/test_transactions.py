@@ -7,6 +7,7 @@ from paritypool.errors import (
     AlreadyExists, Busy, Conflict, Damaged, InvalidArgument, IsDirectory, NotDirectory, NotEmpty, NotFound, OverLimit,
     TooLong,
 )
+from paritypool.system import mount
 
 
 def filled():
@@ -194,10 +195,10 @@ class Drawn(unittest.TestCase):
                     machine.do(*file_call(chosen, ["home"]))
                 else:
                     machine.do("sync")
-                    system, requests = __import__("paritypool.system").system.mount(
-                        copy := [list(rows) for rows in machine.images], machine.epoch + 1)
-                    carry_out(copy, requests)
-                    self.assertEqual(state(system, copy), plain_state(machine.model.catalog))
+                    left = [list(rows) for rows in machine.images]
+                    system, requests = mount(left, machine.epoch + 1)
+                    carry_out(left, requests)
+                    self.assertEqual(state(system, left), plain_state(machine.model.catalog))
         self.assertEqual(set(ended), {None, Conflict})
 
 

@@ -178,6 +178,30 @@ class EachMethod(unittest.TestCase):
                 self.assertIs(both(tree, model, method, old, new), error, (method, old, new))
             self.assertEqual(tree.contents(), model.contents())
 
+    def test_all_paths_and_pairs_of_paths(self):
+        """Each pair of errors that can hold at once holds for some of these."""
+        tree, model = example()
+        for many in (1, 2, 3, 4):
+            both(tree, model, "make_directory", "/".join(["abcdefghijkl"] * many))
+        both(tree, model, "create", LONG + "/f")
+        paths = ["", "a", "f", "d", "x", "a/f", "a/d", "a/d/f", "a/x", "f/x", "x/y", "a/f/x", "a/x/y", "f/x/y", "d/n", "a-d",
+                 LONG, LONG + "/f", LONG + "/f/x", LONG + "/abcdefgh", LONG + "/abcde", LONG + "/x"]
+        calls = [(method, old, new) for method in ("rename", "copy") for old in paths for new in paths]
+        calls += [(method, path) for method in ("make_directory", "create", "remove", "listing", "describe") for path in paths]
+        calls += [("write", path, at, words) for path in paths for at in (0, 7) for words in ([], [5])]
+        calls += [("truncate", path, 3) for path in paths] + [("read", path, 0, 5) for path in paths]
+        found = {}
+        for call in calls:
+            other, plain = Tree(tree.store, tree.root), TreeModel(model.table)
+            outcome = both(other, plain, *call)
+            if call[0] in ("rename", "copy"):
+                found[(call[0], outcome)] = True
+            self.assertEqual(other.contents(), plain.contents(), call)
+            self.assertEqual(tree.contents(), model.contents())
+        for method in ("rename", "copy"):
+            for error in (None, InvalidArgument, NotFound, NotDirectory, AlreadyExists, TooLong):
+                self.assertIn((method, error), found)
+
     def test_equal_paths(self):
         tree, model = example()
         root = tree.root
