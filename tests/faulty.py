@@ -4,7 +4,7 @@ from drawn import any_call, warm_calls
 from helpers import carry_out
 from pool_model import Machine, check_requests, plain_state, result, state
 from paritypool.audit import audit
-from paritypool.errors import NoSpace
+from paritypool.errors import Damaged, NoPool, NoSpace, NotEnoughDisks
 from paritypool.system import mount
 
 FLUSH = ("flush",)
@@ -120,8 +120,11 @@ class FaultyDisks:
 class FaultyMachine(Machine):
     """A system on disks with faults, and a model without faults beside it."""
 
-    def __init__(self, chosen, *, more_disks=0, disks=3, rows=300, **more):
+    def __init__(self, chosen, *, more_disks=0, disks=3, rows=300, any_faults=False, **more):
         self.chosen = chosen
+        # With any number of faults, more errors are right, and a mount may find any state that was ever there.
+        self.any_faults = any_faults
+        self.tolerated = (NoSpace, Damaged, NotEnoughDisks, NoPool) if any_faults else (NoSpace,)
         Machine.__init__(self, disks=disks, rows=rows, more_disks=more_disks, **more)
         self.disks = FaultyDisks(disks + more_disks, rows, chosen)
         self.disks.images = self.images
@@ -132,7 +135,7 @@ class FaultyMachine(Machine):
         """Make a call of both, with faults when its requests are carried out."""
         self.model.present = [rows is not None for rows in self.images]
         found = result(self.system.perform, self.images, call)
-        if found is NoSpace:
+        if found in self.tolerated:
             return found
         expected = self.expected(call)
         requests = []
@@ -147,7 +150,7 @@ class FaultyMachine(Machine):
             self.disks.cut(requests)
             return found
         self.disks.carry_out(requests, gentle)
-        if requests:
+        if requests and not self.any_faults:
             self.allowed = self.allowed[-1:]
         return found
 
@@ -156,7 +159,7 @@ class FaultyMachine(Machine):
         for _ in range(self.chosen.choice([0, 0, 0, 1, 2])):
             self.epoch += 1
             found = result(mount, self.images, self.epoch)
-            if found is not NoSpace:
+            if found not in self.tolerated:
                 self.disks.cut(found[1])
             self.disturb()
         self.epoch += 1
@@ -167,7 +170,7 @@ class FaultyMachine(Machine):
         fitting = [model for model in self.allowed if self.fits(model, found)]
         assert fitting, "a state that never was"
         self.model = fitting[-1].mounted(self.epoch)
-        self.allowed = [self.model.mounted(0)]
+        self.allowed = [*(self.allowed if self.any_faults else []), self.model.mounted(0)]
 
     def check_state(self):
         """The system and a mount of a copy of the images tell what they must."""

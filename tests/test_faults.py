@@ -172,6 +172,42 @@ class Damaging(unittest.TestCase):
         machine.mount()
         machine.check_state()
 
+    def test_going_on_whatever_happens(self):
+        mounts = 0
+        for seed in range(40):
+            chosen = seeded(seed)
+            disks, data, parity = chosen.choice([(3, 2, 1), (3, 1, 2), (2, 1, 1), (4, 2, 1), (1, 1, 0), (5, 3, 2)])
+            machine = FaultyMachine(chosen, disks=disks, data=data, parity=parity, rows=200, any_faults=True)
+            machine.warm()
+            machine.disks.bad = list(range(disks))
+            mounts += self.go_on(machine, chosen, chosen.choice([0.02, 0.1, 0.3]))
+        self.assertGreater(mounts, 30)
+
+    def go_on(self, machine, chosen, often):
+        """Make calls and mounts until one fails; return how many mounts went well."""
+        mounts = 0
+        for _ in range(100):
+            if chosen.random() < often:
+                machine.disks.write_late()
+                machine.disks.hurt()
+            if chosen.random() < 0.15:
+                machine.disks.bring_back()
+            call, share = machine.some_call(), chosen.random()
+            # Snapshots of equal states may have other identities.
+            if call[0] == "send":
+                continue
+            machine.do(*call, cut=share < 0.05)
+            if share < 0.1:
+                try:
+                    machine.mount()
+                except PoolError:
+                    return mounts
+                mounts += 1
+                # Of two checkpoints, it is not known which one is kept.
+                if machine.do("drop_checkpoint") in machine.tolerated:
+                    return mounts
+        return mounts
+
     def test_mounts(self):
         mounted = 0
         for seed in range(60):
