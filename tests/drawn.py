@@ -59,7 +59,8 @@ def transaction_call(chosen, numbers):
     """A transaction call, mostly on one of the open ones with these numbers."""
     number = chosen.choice(numbers) if numbers and chosen.random() < 0.95 else chosen.randrange(12)
     part = file_call(chosen) if chosen.random() < 0.7 else tree_question(chosen)
-    return chosen.choice([("begin",), *[("within", number, part)] * 5, ("finish", number), ("abandon", chosen.randrange(40))])
+    calls = [("begin",), ("finish", number), ("abandon", chosen.randrange(40))]
+    return chosen.choice(calls + [("within", number, part)] * 5)
 
 
 def atomic_call(chosen, light=False):

@@ -2,7 +2,45 @@
 
 import copy
 
-from paritypool.errors import AlreadyExists, InvalidArgument, IsDirectory, NotDirectory, NotEmpty, NotFound, TooLong
+from helpers import same_kinds
+from paritypool.errors import (
+    AlreadyExists, InvalidArgument, IsDirectory, NotDirectory, NotEmpty, NotFound, PoolError, TooLong,
+)
+from paritypool.store import Store
+
+
+class Counting(Store):
+    """A store that counts the blocks that are made and read."""
+
+    puts = 0
+    gets = 0
+
+    def put(self, words, *, avoid=()):
+        self.puts += 1
+        return Store.put(self, words, avoid=avoid)
+
+    def get(self, pointer):
+        self.gets += 1
+        return Store.get(self, pointer)
+
+
+def outcome(target, method, arguments):
+    """The answer of a method, or the class of the error."""
+    try:
+        return getattr(target, method)(*copy.deepcopy(arguments))
+    except PoolError as error:
+        return error.__class__
+
+
+def both(target, model, method, *arguments):
+    """Call a method of a tree or a catalog and of its model, which must do the same; what comes of it."""
+    expected = outcome(model, method, arguments)
+    before = target.root
+    found = outcome(target, method, arguments)
+    assert same_kinds(found, expected), (method, arguments, found, expected)
+    if isinstance(expected, type):
+        assert target.root == before, (method, arguments)
+    return found
 
 
 def pages_of(words):

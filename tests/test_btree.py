@@ -1,27 +1,13 @@
 import unittest
 
 from helpers import blank, carry_out, same_kinds, seeded
+from models import Counting
 from paritypool.btree import blocks, change_pairs, differences, evacuate, find, insert, remove, scan
 from paritypool.errors import Damaged, InvalidArgument, NoSpace, NotEnoughDisks
 from paritypool.store import Store
 
 LOWEST = ("", -1)
 HIGHEST = ("~" * 100, 0)
-
-
-class Counting(Store):
-    """A store that counts the blocks that are made and read."""
-
-    puts = 0
-    gets = 0
-
-    def put(self, words, *, avoid=()):
-        self.puts += 1
-        return Store.put(self, words, avoid=avoid)
-
-    def get(self, pointer):
-        self.gets += 1
-        return Store.get(self, pointer)
 
 
 def new_store(*, data=1, parity=0, disks=1, rows=4000, epoch=1):

@@ -2,45 +2,20 @@ import copy
 import unittest
 
 from helpers import blank, carry_out, same_kinds, seeded
-from models import CatalogModel
+from models import CatalogModel, Counting, both, outcome
 from paritypool.btree import blocks
 from paritypool.catalog import Catalog
-from paritypool.errors import AlreadyExists, Damaged, NotEmpty, NotEnoughDisks, NotFound, PoolError
+from paritypool.errors import AlreadyExists, Damaged, NotEmpty, NotEnoughDisks, NotFound
 from paritypool.store import Store
 from paritypool.tree import Tree
 
 NAMES = ["a", "ab", "a-b", "abc", "b", "abcdefghijkl", "0", "-"]
 
 
-class Counting(Store):
-    puts = 0
-
-    def put(self, words, *, avoid=()):
-        self.puts += 1
-        return Store.put(self, words, avoid=avoid)
-
-
 def new_catalog(*, data=1, parity=0, disks=1, rows=2000, epoch=1):
     store = Counting(data=data, parity=parity, rows=rows, members=list(range(disks)), epoch=epoch)
     store.look(blank(disks, rows))
     return Catalog(store, None)
-
-
-def result(target, method, arguments):
-    try:
-        return getattr(target, method)(*copy.deepcopy(arguments))
-    except PoolError as error:
-        return error.__class__
-
-
-def both(catalog, model, method, *arguments):
-    expected = result(model, method, arguments)
-    before = catalog.root
-    found = result(catalog, method, arguments)
-    assert same_kinds(found, expected), (method, arguments, found, expected)
-    if isinstance(expected, type):
-        assert catalog.root == before, (method, arguments)
-    return found
 
 
 def state(target):
@@ -62,7 +37,7 @@ def drawn_call(chosen, roots):
     identity = (chosen.randrange(65521), chosen.randrange(65521), chosen.choice([0, 65520]))
     return chosen.choice([
         ("new_set", name), ("new_set", name), ("tree_root", name), ("tree_root", name, snap), ("tree_root", name, None),
-        ("set_root", name, chosen.choice(roots)), ("snapshot", name, snap, identity), ("snapshot", name, snap, identity),
+        ("set_root", name, chosen.choice(roots)), *[("snapshot", name, snap, identity)] * 2,
         ("limit", name), ("set_limit", name, chosen.choice([None, 0, 7, 60000])), ("clone", name, snap, new),
         ("rollback", name, snap), ("drop_snapshot", name, snap), ("drop_snapshot", name, snap), ("drop_set", name),
         ("sets",), ("snapshots", name),
@@ -88,13 +63,16 @@ class AgainstAModel(unittest.TestCase):
 
     def test_each_error_of_each_method(self):
         catalog, model = new_catalog(), CatalogModel()
-        for call in [("new_set", "a"), ("new_set", "b"), ("snapshot", "a", "s", (1, 2, 3)), ("snapshot", "b", "t", (1, 2, 4))]:
+        for call in [("new_set", "a"), ("new_set", "b"), ("snapshot", "a", "s", (1, 2, 3)),
+                     ("snapshot", "b", "t", (1, 2, 4))]:
             self.assertIsNone(both(catalog, model, *call))
         for *call, error in [
             ("new_set", "a", AlreadyExists), ("tree_root", "x", NotFound), ("tree_root", "x", "s", NotFound),
-            ("tree_root", "a", "t", NotFound), ("set_root", "x", None, NotFound), ("snapshot", "x", "s", (1, 2, 5), NotFound),
+            ("tree_root", "a", "t", NotFound), ("set_root", "x", None, NotFound),
+            ("snapshot", "x", "s", (1, 2, 5), NotFound),
             ("snapshot", "a", "s", (1, 2, 5), AlreadyExists), ("limit", "x", NotFound), ("set_limit", "x", 5, NotFound),
-            ("clone", "x", "s", "a", NotFound), ("clone", "a", "t", "b", NotFound), ("clone", "a", "s", "b", AlreadyExists),
+            ("clone", "x", "s", "a", NotFound), ("clone", "a", "t", "b", NotFound),
+            ("clone", "a", "s", "b", AlreadyExists),
             ("clone", "a", "s", "a", AlreadyExists), ("rollback", "x", "s", NotFound), ("rollback", "a", "t", NotFound),
             ("drop_snapshot", "x", "s", NotFound), ("drop_snapshot", "a", "t", NotFound), ("drop_set", "x", NotFound),
             ("drop_set", "a", NotEmpty), ("snapshots", "x", NotFound),
@@ -104,11 +82,13 @@ class AgainstAModel(unittest.TestCase):
 
     def test_all_names_of_each_method(self):
         catalog, model = new_catalog(), CatalogModel()
-        for call in [("new_set", "a"), ("new_set", "b"), ("snapshot", "a", "s", (1, 2, 3)), ("snapshot", "a", "t", (1, 2, 4)),
-                     ("snapshot", "b", "t", (1, 2, 5)), ("new_set", "ab"), ("set_limit", "b", 0)]:
+        for call in [("new_set", "a"), ("new_set", "b"), ("new_set", "ab"), ("set_limit", "b", 0),
+                     ("snapshot", "a", "s", (1, 2, 3)), ("snapshot", "a", "t", (1, 2, 4)),
+                     ("snapshot", "b", "t", (1, 2, 5))]:
             both(catalog, model, *call)
         names, snaps = ["a", "b", "ab", "x"], ["s", "t", "x"]
-        calls = [(method, name) for method in ("new_set", "drop_set", "limit", "snapshots", "tree_root") for name in names]
+        methods = ("new_set", "drop_set", "limit", "snapshots", "tree_root")
+        calls = [(method, name) for method in methods for name in names]
         for name in names:
             calls += [(method, name, snap) for method in ("rollback", "drop_snapshot", "tree_root") for snap in snaps]
             calls += [("snapshot", name, snap, (9, 9, 9)) for snap in snaps]
@@ -191,8 +171,8 @@ class Snapshots(unittest.TestCase):
         tree.create("f")
         for number in range(10):
             name = "abcdefghij" + str(10 + number)
-            for call in [("new_set",), *[("snapshot", "zyxwvutsrq" + str(10 + k), (65520, 65520, 65520)) for k in range(5)],
-                         ("set_root", tree.root)]:
+            snapshots = [("snapshot", "zyxwvutsrq" + str(10 + k), (65520, 65520, 65520)) for k in range(5)]
+            for call in [("new_set",), *snapshots, ("set_root", tree.root)]:
                 before = catalog.store.puts
                 getattr(catalog, call[0])(name, *call[1:])
                 self.assertLessEqual(catalog.store.puts - before, 8)
@@ -256,11 +236,12 @@ class Live(unittest.TestCase):
                 self.assertEqual(everything(again), expected)
                 self.assertEqual(sorted(again.live()), sorted(live))
             store.look([None] * disks)
-            for call in (("sets",), ("new_set", "n"), ("tree_root", "a"), ("tree_root", "a", "s0"), ("set_root", "a", None),
-                         ("limit", "a"), ("set_limit", "a", 1), ("snapshots", "a"), ("snapshot", "a", "n", (1, 1, 1)),
+            for call in (("sets",), ("new_set", "n"), ("tree_root", "a"), ("tree_root", "a", "s0"),
+                         ("set_root", "a", None), ("limit", "a"), ("set_limit", "a", 1), ("snapshots", "a"),
+                         ("snapshot", "a", "n", (1, 1, 1)),
                          ("clone", "a", "s0", "n"), ("rollback", "a", "s0"), ("drop_snapshot", "a", "s0"),
                          ("drop_set", "a"), ("live",), ("evacuate", [0], {})):
-                self.assertIs(result(again, call[0], call[1:]), Damaged, call)
+                self.assertIs(outcome(again, call[0], call[1:]), Damaged, call)
 
 
 class Evacuate(unittest.TestCase):

@@ -19,7 +19,8 @@ class UpToParity(unittest.TestCase):
         machine.warm()
         total = len(machine.images)
         for _ in range(rounds):
-            machine.disks.bad = chosen.sample(range(total), chosen.choice([parity, parity, chosen.randrange(parity + 1)]))
+            many = chosen.choice([parity, parity, chosen.randrange(parity + 1)])
+            machine.disks.bad = chosen.sample(range(total), many)
             for _ in range(calls):
                 machine.disturb()
                 share = chosen.random()
@@ -79,7 +80,8 @@ class Members(unittest.TestCase):
                     if share < 0.3:
                         self.change(machine, chosen)
                     elif share < 0.4:
-                        machine.do(*chosen.choice([machine.some_call(), ("heal",), ("add", 4), ("activate", 4)]), cut=True)
+                        call = chosen.choice([machine.some_call(), ("heal",), ("add", 4), ("activate", 4)])
+                        machine.do(*call, cut=True)
                         machine.disturb()
                         machine.mount()
                     else:

@@ -72,7 +72,8 @@ class Moved(unittest.TestCase):
         self.assertEqual(moved_path("ab/ab", "ab", "a"), "a/ab")
 
     def test_a_result_that_is_too_long_for_a_path(self):
-        self.assertEqual(moved_path("a/" + "b" * 12, "a", "/".join(["c" * 12] * 4)), "/".join(["c" * 12] * 4 + ["b" * 12]))
+        new = "/".join(["c" * 12] * 4)
+        self.assertEqual(moved_path("a/" + "b" * 12, "a", new), new + "/" + "b" * 12)
 
 
 if __name__ == "__main__":

@@ -53,7 +53,8 @@ def check_mount_steps(images, requests, epoch, members):
     assert [disk for _, disk, _, _ in claim] == [disk for disk in members if images[disk] is not None]
     for _, disk, row, sector in claim:
         assert (row, sector[:6]) == ((label.group + 1) % 2, [1, disk, row, epoch, 0, label.group + 1])
-    assert requests[-1] == FLUSH and requests[-2][3][:6] == [1, requests[-2][1], label.group % 2, epoch, 0, label.group + 2]
+    last = requests[-2]
+    assert requests[-1] == FLUSH and last[3][:6] == [1, last[1], label.group % 2, epoch, 0, label.group + 2]
     for request in requests[second + 1:]:
         assert request == FLUSH or request[2] >= 18 or request[3][5] == label.group + 2
 
@@ -133,12 +134,13 @@ class Cuts(unittest.TestCase):
     def test_changes_of_members(self):
         chosen = seeded(5)
         machine = Powered(disks=3, data=1, parity=1, more_disks=2)
-        calls = [*warm_calls(chosen, light=True)[:16], ("add", 3), ("activate", 3), ("retire", 0), ("add", 4), ("add", 0),
-                 ("checkpoint",), ("create", "a", "n"), ("retire", 4), ("activate", 0), ("retire", 1), ("heal",), ("scrub",)]
+        calls = [*warm_calls(chosen, light=True)[:16], ("add", 3), ("activate", 3), ("retire", 0), ("add", 4),
+                 ("add", 0), ("checkpoint",), ("create", "a", "n"), ("retire", 4), ("activate", 0), ("retire", 1),
+                 ("heal",), ("scrub",)]
         for number, call in enumerate(calls):
             before, allowed = copied(machine.images), list(machine.allowed)
-            assert not isinstance(machine.do(*call), type) or call[0] in ("write", "copy", "rename", "remove", "truncate",
-                                                                          "create", "make_directory"), call
+            found = machine.do(*call)
+            assert number < 16 or found in (None, 0) or call == ("create", "a", "n"), (call, found)
             if machine.requests and number >= 16:
                 allowed = [full_model_state(model) for model in [*allowed, machine.model]]
                 # Members may be those from before the call or those behind it.
@@ -244,7 +246,8 @@ class Lost(unittest.TestCase):
             system, mounting = mount(before, 2)
             if chosen.random() < 0.7:
                 carry_out(before, mounting)
-                for call in [("write", "a", "f", 0, [2] * 40), ("commit",), ("write", "a", "f", 0, [3] * 40), ("sync",)]:
+                for call in [("write", "a", "f", 0, [2] * 40), ("commit",), ("write", "a", "f", 0, [3] * 40),
+                             ("sync",)]:
                     carry_out(before, system.perform(before, call)[1])
                 expected = [3] * 40
             else:

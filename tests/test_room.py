@@ -36,8 +36,8 @@ class EnoughRoom(unittest.TestCase):
         for _ in range(50):
             share = chosen.random()
             call = chosen.choice([
-                file_call(chosen), file_call(chosen, light=True), ("write", chosen.choice(SETS), "b", 16 * chosen.randrange(9),
-                                                                  big_words(chosen, 16)),
+                file_call(chosen), file_call(chosen, light=True),
+                ("write", chosen.choice(SETS), "b", 16 * chosen.randrange(9), big_words(chosen, 16)),
                 atomic_call(chosen), set_call(chosen), transaction_call(chosen, list(machine.model.transactions)),
                 heavy_atomic(chosen) if share < 0.3 else ("sync",),
             ])
@@ -93,8 +93,8 @@ class EnoughRoom(unittest.TestCase):
         machine.mount()
         machine.check_state()
         for _ in range(59):
-            found = machine.do("atomic", [("write", "a", "moved/e/f/g", at, [chosen.randrange(1, 99)]) for at in range(100)])
-            self.assertIsNone(found)
+            parts = [("write", "a", "moved/e/f/g", at, [chosen.randrange(1, 99)]) for at in range(100)]
+            self.assertIsNone(machine.do("atomic", parts))
         machine.do("commit")
         machine.check_state()
 
@@ -171,7 +171,8 @@ class LittleRoom(unittest.TestCase):
                     any_call(chosen, light=True, numbers=machine.model.transactions), ("snapshot", "a", path),
                     ("atomic", [("create", "b", path), ("write", "b", path, 0, some_words(chosen, 900))]),
                     ("clone", "a", "s", path), ("begin",), ("commit",),
-                    ("within", chosen.randrange(8), ("write", "a", "b", chosen.randrange(2000), some_words(chosen, 500))),
+                    ("within", chosen.randrange(8),
+                     ("write", "a", "b", chosen.randrange(2000), some_words(chosen, 500))),
                 ])
                 refused += self.do_or_refuse(machine, call)
             self.assertGreater(refused, 3)
@@ -201,10 +202,11 @@ class LittleRoom(unittest.TestCase):
         machine.do("new_set", "a")
         machine.do("create", "a", "f")
         number = 0
-        while self.do_or_refuse(machine, ("write", "a", "f", 300 * number, big_words(chosen, 300))) == 0 and number < 12:
+        for number in range(12):
+            if self.do_or_refuse(machine, ("write", "a", "f", 300 * number, big_words(chosen, 300))):
+                break
             machine.do("commit")
             machine.do("snapshot", "a", "s" + str(number))
-            number += 1
         free = machine.system.free_counts()
         found = result(machine.system.perform, machine.images, ("retire", 1))
         if found is NoSpace:
@@ -238,6 +240,10 @@ class RemovedThings(unittest.TestCase):
                 self.empty(machine)
                 self.assertEqual(machine.system.free_counts(), [(disk, 482) for disk in range(4)])
 
+    def cut(self, machine, requests, chosen):
+        done = chosen.randrange(len(requests) + 1)
+        machine.images = cut_at(machine.images, requests, done, chosen.choice(fates(chosen)))
+
     def test_behind_cut_calls_and_mounts(self):
         for seed in range(10):
             chosen = seeded(seed)
@@ -248,10 +254,10 @@ class RemovedThings(unittest.TestCase):
                 call = set_call(chosen)
                 requests = machine.system.perform(machine.images, call)[1] if not isinstance(
                     result(copy.deepcopy(machine.system).perform, machine.images, call), type) else []
-                machine.images = cut_at(machine.images, requests, chosen.randrange(len(requests) + 1), chosen.choice(fates(chosen)))
+                self.cut(machine, requests, chosen)
                 machine.epoch += 1
                 _, requests = mount(machine.images, machine.epoch)
-                machine.images = cut_at(machine.images, requests, chosen.randrange(len(requests) + 1), chosen.choice(fates(chosen)))
+                self.cut(machine, requests, chosen)
                 machine.mount()
             system, images = machine.system, machine.images
 
@@ -292,7 +298,8 @@ class FewRequests(unittest.TestCase):
                     machine.do(*chosen.choice([
                         ("write", name, path, chosen.randrange(3000), big_words(chosen, 100)),
                         ("write", name, path, 0, [65520] * 100), ("rename", name, deep[0], deep[0]),
-                        ("truncate", name, "f", number * 100), ("copy", name, "f", "f" + str(seed * 99 + number + many * 7)),
+                        ("truncate", name, "f", number * 100),
+                        ("copy", name, "f", "f" + str(seed * 99 + number + many * 7)),
                     ]))
                     writes += self.writes(machine.requests)
                     flushes += machine.requests.count(FLUSH)
@@ -330,7 +337,8 @@ class FewRequests(unittest.TestCase):
             machine.do("begin")
             machine.do(*call)
             machine.do("sync")
-            self.assertEqual([request[:3] for request in machine.requests], [("write", 0, 2), ("write", 1, 2), ("flush",)])
+            found = [request[:3] for request in machine.requests]
+            self.assertEqual(found, [("write", 0, 2), ("write", 1, 2), FLUSH])
             machine.mount()
             machine.check_state()
 

@@ -9,6 +9,7 @@ from paritypool.errors import (
     ReadOnly,
 )
 from paritypool.labels import Label, find_label, label_requests
+from paritypool.stream import unseal_stream
 from paritypool.system import System, create, mount
 
 FLUSH = ("flush",)
@@ -133,7 +134,6 @@ class Mount(unittest.TestCase):
         system, requests = mount(images, 5)
         carry_out(images, requests)
         do(system, images, "snapshot", "a", "u")
-        from paritypool.stream import unseal_stream
         found = [unseal_stream(do(system, images, "send", "a", None, snap))[1] for snap in ("s", "t", "u")]
         self.assertEqual(found, [(11, 3, 0), (11, 3, 1), (11, 5, 0)])
         self.assertEqual(unseal_stream(do(system, images, "send", "a", "t", "u"))[:2], ((11, 3, 1), (11, 5, 0)))
@@ -317,9 +317,11 @@ class Atomic(unittest.TestCase):
         machine.do("new_set", "a")
         machine.do("new_set", "b")
         self.assertIsNone(machine.do("atomic", []))
-        self.assertIsNone(machine.do("atomic", [("make_directory", "a", "d"), ("create", "a", "d/f"), ("create", "b", "f"),
-                                                ("write", "a", "d/f", 0, [1])]))
-        self.assertIs(machine.do("atomic", [("remove", "a", "d/f"), ("remove", "a", "d"), ("remove", "a", "d")]), NotFound)
+        parts = [("make_directory", "a", "d"), ("create", "a", "d/f"), ("create", "b", "f"),
+                 ("write", "a", "d/f", 0, [1])]
+        self.assertIsNone(machine.do("atomic", parts))
+        parts = [("remove", "a", "d/f"), ("remove", "a", "d"), ("remove", "a", "d")]
+        self.assertIs(machine.do("atomic", parts), NotFound)
         self.assertIs(machine.do("atomic", [("create", "a", "g"), ("create", "x", "g")]), NotFound)
         self.assertIs(machine.do("atomic", [("create", "b", "g"), ("create", "b", "f"), ("remove", "b", "z")]),
                       AlreadyExists)

@@ -77,8 +77,8 @@ class Finish(unittest.TestCase):
     def test_the_same_results(self):
         machine = filled()
         number = machine.do("begin")
-        for part in [("write", "a", "f", 5, [8]), ("create", "a", "d/f"), ("read", "a", "f", 0, 9), ("listing", "a", "d"),
-                     ("remove", "a", "x"), ("create", "b", "new"), ("contents", "a@s")]:
+        for part in [("write", "a", "f", 5, [8]), ("create", "a", "d/f"), ("read", "a", "f", 0, 9),
+                     ("listing", "a", "d"), ("remove", "a", "x"), ("create", "b", "new"), ("contents", "a@s")]:
             machine.do("within", number, part)
         machine.do("create", "b", "other")
         machine.do("write", "a", "d/f", 0, [4])
@@ -121,8 +121,9 @@ class Finish(unittest.TestCase):
     def test_each_class_of_errors(self):
         long_name = "/".join(["abcdefghijkl"] * 4)
         for part, error in (
-            (("create", "a", "f"), AlreadyExists), (("create", "a", "f/x"), NotDirectory), (("remove", "a", "d"), NotEmpty),
-            (("read", "a", "d", 0, 1), IsDirectory), (("remove", "a", ""), InvalidArgument),
+            (("create", "a", "f"), AlreadyExists), (("create", "a", "f/x"), NotDirectory),
+            (("remove", "a", "d"), NotEmpty), (("read", "a", "d", 0, 1), IsDirectory),
+            (("remove", "a", ""), InvalidArgument),
             (("write", "a", "f", 40, [1]), OverLimit), (("remove", "a", "z"), NotFound),
             (("rename", "a", "d", long_name + "/abcdefg"), TooLong), (("create", "z", "f"), NotFound),
         ):

@@ -10,8 +10,8 @@ from paritypool.errors import AlreadyExists, InvalidArgument, NotFound, WrongBas
 def with_snapshots(pool=5, **more):
     machine = Machine(pool=pool, **more)
     for call in [("new_set", "a"), ("create", "a", "f"), ("write", "a", "f", 0, [1] * 40), ("snapshot", "a", "s"),
-                 ("make_directory", "a", "d"), ("write", "a", "f", 20, [2]), ("snapshot", "a", "t"), ("remove", "a", "f"),
-                 ("snapshot", "a", "u")]:
+                 ("make_directory", "a", "d"), ("write", "a", "f", 20, [2]), ("snapshot", "a", "t"),
+                 ("remove", "a", "f"), ("snapshot", "a", "u")]:
         machine.do(*call)
     return machine
 
@@ -19,8 +19,10 @@ def with_snapshots(pool=5, **more):
 class Send(unittest.TestCase):
     def test_errors_in_their_order(self):
         machine = with_snapshots()
-        for base, snap, error in (("x", "y", NotFound), ("s", "x", NotFound), ("x", "s", NotFound), (None, "x", NotFound),
-                                  ("s", "s", InvalidArgument), ("t", "s", InvalidArgument), ("u", "s", InvalidArgument)):
+        for base, snap, error in (
+            ("x", "y", NotFound), ("s", "x", NotFound), ("x", "s", NotFound), (None, "x", NotFound),
+            ("s", "s", InvalidArgument), ("t", "s", InvalidArgument), ("u", "s", InvalidArgument),
+        ):
             self.assertIs(machine.do("send", "a", base, snap), error)
             self.assertIs(machine.do("send", "z", base, snap), NotFound)
 
@@ -109,7 +111,8 @@ class Receive(unittest.TestCase):
         streams = self.streams()
         machine = Machine(pool=9)
         machine.do("receive", streams[None, "s"], "b", "s")
-        for call in [("remove", "b", "f"), ("create", "b", "f"), ("truncate", "b", "f", 40), ("write", "b", "f", 0, [1] * 40)]:
+        for call in [("remove", "b", "f"), ("create", "b", "f"), ("truncate", "b", "f", 40),
+                     ("write", "b", "f", 0, [1] * 40)]:
             machine.do(*call)
         self.assertIsNone(machine.do("receive", streams["s", "t"], "b", "t"))
         machine.check_state()

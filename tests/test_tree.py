@@ -2,10 +2,10 @@ import copy
 import unittest
 
 from helpers import blank, carry_out, same_kinds, seeded, some_words
-from models import TreeModel
+from models import Counting, TreeModel, both, outcome
 from paritypool.btree import blocks, differences
 from paritypool.errors import (
-    AlreadyExists, Damaged, InvalidArgument, IsDirectory, NoSpace, NotDirectory, NotEmpty, NotFound, PoolError, TooLong,
+    AlreadyExists, Damaged, InvalidArgument, IsDirectory, NoSpace, NotDirectory, NotEmpty, NotFound, TooLong,
 )
 from paritypool.store import Store
 from paritypool.tree import Tree
@@ -16,37 +16,10 @@ METHODS = {"make_directory": 1, "create": 1, "write": 3, "truncate": 2, "remove"
 LONG = "/".join(["abcdefghijkl"] * 4)
 
 
-class Counting(Store):
-    puts = 0
-
-    def put(self, words, *, avoid=()):
-        self.puts += 1
-        return Store.put(self, words, avoid=avoid)
-
-
 def new_tree(rows=4000):
     store = Counting(data=1, parity=0, rows=rows, members=[0], epoch=1)
     store.look(blank(1, rows))
     return Tree(store, None)
-
-
-def result(target, method, arguments):
-    """The answer, or the class of the error."""
-    try:
-        return getattr(target, method)(*copy.deepcopy(arguments))
-    except PoolError as error:
-        return error.__class__
-
-
-def both(tree, model, method, *arguments):
-    """Call a method of both; what comes of it."""
-    expected = result(model, method, arguments)
-    before = tree.root
-    found = result(tree, method, arguments)
-    assert same_kinds(found, expected), (method, arguments, found, expected)
-    if isinstance(expected, type):
-        assert tree.root == before, (method, arguments)
-    return found
 
 
 def example():
@@ -70,9 +43,11 @@ def drawn_call(chosen, paths):
         words = [0] * length if chosen.random() < 0.3 else some_words(chosen, length)
         return method, (chosen.choice(paths), at, words)
     if method == "truncate":
-        return method, (chosen.choice(paths), chosen.choice([0, 1, 15, 16, 17, 31, 32, 33, 4096, chosen.randrange(4097)]))
+        sizes = [0, 1, 15, 16, 17, 31, 32, 33, 4096, chosen.randrange(4097)]
+        return method, (chosen.choice(paths), chosen.choice(sizes))
     if method == "read":
-        return method, (chosen.choice(paths), chosen.choice([0, 1, 15, 16, 17, 5000]), chosen.choice([0, 1, 16, 40, 10 ** 9]))
+        at, count = chosen.choice([0, 1, 15, 16, 17, 5000]), chosen.choice([0, 1, 16, 40, 10 ** 9])
+        return method, (chosen.choice(paths), at, count)
     return method, tuple(chosen.choice(paths) for _ in range(METHODS[method]))
 
 
@@ -173,7 +148,8 @@ class EachMethod(unittest.TestCase):
                 ("x", "x", NotFound), ("x", "x/y", NotFound), ("f/x", "f/x", NotDirectory),
                 ("a", "a/n", InvalidArgument), ("a", "a/f/n", InvalidArgument), ("a", "a/d", InvalidArgument),
                 ("f", "f/n", InvalidArgument), ("a", "x/n", NotFound), ("a", "f/n", NotDirectory),
-                ("a", "f", AlreadyExists), ("f", "a", AlreadyExists), ("a/f", "a", AlreadyExists), ("a", "d", AlreadyExists),
+                ("a", "f", AlreadyExists), ("f", "a", AlreadyExists), ("a/f", "a", AlreadyExists),
+                ("a", "d", AlreadyExists),
             ):
                 self.assertIs(both(tree, model, method, old, new), error, (method, old, new))
             self.assertEqual(tree.contents(), model.contents())
@@ -184,18 +160,19 @@ class EachMethod(unittest.TestCase):
         for many in (1, 2, 3, 4):
             both(tree, model, "make_directory", "/".join(["abcdefghijkl"] * many))
         both(tree, model, "create", LONG + "/f")
-        paths = ["", "a", "f", "d", "x", "a/f", "a/d", "a/d/f", "a/x", "f/x", "x/y", "a/f/x", "a/x/y", "f/x/y", "d/n", "a-d",
-                 LONG, LONG + "/f", LONG + "/f/x", LONG + "/abcdefgh", LONG + "/abcde", LONG + "/x"]
+        paths = ["", "a", "f", "d", "x", "a/f", "a/d", "a/d/f", "a/x", "f/x", "x/y", "a/f/x", "a/x/y", "f/x/y", "d/n",
+                 "a-d", LONG, LONG + "/f", LONG + "/f/x", LONG + "/abcdefgh", LONG + "/abcde", LONG + "/x"]
         calls = [(method, old, new) for method in ("rename", "copy") for old in paths for new in paths]
-        calls += [(method, path) for method in ("make_directory", "create", "remove", "listing", "describe") for path in paths]
+        methods = ("make_directory", "create", "remove", "listing", "describe")
+        calls += [(method, path) for method in methods for path in paths]
         calls += [("write", path, at, words) for path in paths for at in (0, 7) for words in ([], [5])]
         calls += [("truncate", path, 3) for path in paths] + [("read", path, 0, 5) for path in paths]
         found = {}
         for call in calls:
             other, plain = Tree(tree.store, tree.root), TreeModel(model.table)
-            outcome = both(other, plain, *call)
+            told = both(other, plain, *call)
             if call[0] in ("rename", "copy"):
-                found[(call[0], outcome)] = True
+                found[(call[0], told)] = True
             self.assertEqual(other.contents(), plain.contents(), call)
             self.assertEqual(tree.contents(), model.contents())
         for method in ("rename", "copy"):
@@ -313,7 +290,8 @@ class Storage(unittest.TestCase):
         for seed in range(6):
             chosen = seeded(seed)
             tree, model = new_tree(), TreeModel()
-            paths = ["a", "b", "c", "a/" + "x" * 12, "a/" + "y" * 12, *["b/" + "/".join("qrstuvwxyz"[:n]) for n in range(1, 9)]]
+            paths = ["a", "b", "c", "a/" + "x" * 12, "a/" + "y" * 12]
+            paths.extend(["b/" + "/".join("qrstuvwxyz"[:many]) for many in range(1, 9)])
             for _ in range(150):
                 method, arguments = drawn_call(chosen, paths)
                 before, puts = model.weight(), tree.store.puts
@@ -346,10 +324,11 @@ class Storage(unittest.TestCase):
         self.assertEqual(tree.listing(""), [("f", "file")])
         store.look([])
         for method, arguments in (("create", ("g",)), ("write", ("f", 0, [1])), ("truncate", ("f", 1)),
-                                  ("remove", ("f",)), ("rename", ("f", "g")), ("copy", ("f", "g")), ("read", ("f", 0, 1)),
-                                  ("listing", ("",)), ("describe", ("",)), ("usage", ()), ("contents", ()),
+                                  ("remove", ("f",)), ("rename", ("f", "g")), ("copy", ("f", "g")),
+                                  ("read", ("f", 0, 1)), ("listing", ("",)), ("describe", ("",)), ("usage", ()),
+                                  ("contents", ()),
                                   ("make_directory", ("g",))):
-            self.assertIs(result(tree, method, arguments), Damaged, method)
+            self.assertIs(outcome(tree, method, arguments), Damaged, method)
         store.look(images)
         before = tree.root
         with self.assertRaises(NoSpace):
