@@ -64,19 +64,19 @@ class Compared(unittest.TestCase):
                 new = insert(store, root, key, value)
                 table[key] = value
             root = new
-            # Of many keys, only some are asked for each time.
-            some = len(keys) // 60 + 1
+            # Every key is asked for, but of very many only some each time.
+            some = 1 if len(keys) <= 70 else 10
             self.check(store, root, table, keys[-1:] + keys[len(keys) * 7 % some::some])
         self.check(store, root, table, keys)
         return root
 
     def test_drawn_changes(self):
-        for seed in range(12):
+        for seed, many in enumerate([3, 10, 10, 30, 30, 60, 150]):
             chosen = seeded(seed)
             store, table = new_store(rows=4000), {}
-            pool = [some_key(chosen) for _ in range(chosen.choice([3, 10, 60, 150]))]
+            pool = [some_key(chosen) for _ in range(many)]
             changes = [(chosen.choice(pool), some_value(chosen) if chosen.random() < 0.65 else None)
-                       for _ in range(220)]
+                       for _ in range(200)]
             root = self.run_changes(store, None, table, changes)
             root = self.run_changes(store, root, table, [(key, None) for key in list(table)])
             self.assertIsNone(root)

@@ -35,9 +35,9 @@ def fates(chosen):
     return [lambda: "lasts", lambda: "lost", lambda: "torn", lambda: chosen.choice(["lasts", "lost", "torn"])]
 
 
-def cuts(images, requests, chosen, every=1):
+def cuts(images, requests, chosen):
     """The images behind each cut."""
-    for done in range(0, len(requests) + 1, every):
+    for done in range(len(requests) + 1):
         for fate in fates(chosen):
             yield cut_at(images, requests, done, fate)
 
@@ -89,10 +89,10 @@ class Powered(Machine):
 
 
 class Cuts(unittest.TestCase):
-    def check_cuts(self, machine, requests, before, allowed, chosen, every):
+    def check_cuts(self, machine, requests, before, allowed, chosen):
         """Mount behind each cut; now and then cut the mounts, too."""
         members = sorted([*machine.model.members, *machine.model.spares])
-        for left in cuts(before, requests, chosen, every):
+        for left in cuts(before, requests, chosen):
             epoch = machine.epoch + 1
             system, mounting = mount(left, epoch)
             check_requests(mounting, left, machine.rows)
@@ -104,7 +104,7 @@ class Cuts(unittest.TestCase):
             carry_out(left, mounting)
             self.assertIn(full_state(left, epoch + 1), allowed)
 
-    def run_machine(self, seed, calls, every=1, **more):
+    def run_machine(self, seed, calls, **more):
         chosen = seeded(seed)
         machine = Powered(**more)
         warm = warm_calls(chosen, light=True)
@@ -114,7 +114,7 @@ class Cuts(unittest.TestCase):
             machine.do(*call)
             allowed = [full_model_state(model) for model in [*allowed, machine.model]]
             if machine.requests and (number > 6 or chosen.random() < 0.2):
-                self.check_cuts(machine, machine.requests, before, allowed, chosen, every)
+                self.check_cuts(machine, machine.requests, before, allowed, chosen)
             elif chosen.random() < 0.2:
                 # The power is cut between two calls; any of the calls since the last commit may be lost.
                 self.assertIn(full_state(machine.images, machine.epoch + 1), allowed)
@@ -126,10 +126,10 @@ class Cuts(unittest.TestCase):
         self.run_machine(2, 70, disks=1, data=1, parity=0)
 
     def test_more_members_than_pieces(self):
-        self.run_machine(3, 70, disks=4, data=1, parity=1, every=3)
+        self.run_machine(3, 70, disks=4, data=1, parity=1)
 
     def test_many_pieces(self):
-        self.run_machine(4, 50, disks=6, data=3, parity=2, every=4)
+        self.run_machine(4, 50, disks=6, data=3, parity=2)
 
     def test_changes_of_members(self):
         chosen = seeded(5)
@@ -146,6 +146,29 @@ class Cuts(unittest.TestCase):
                 # Members may be those from before the call or those behind it.
                 for left in cuts(before, machine.requests, chosen):
                     self.assertIn(full_state(left, 2), allowed)
+
+    def test_each_cut_of_mount(self):
+        for seed, more in enumerate([{}, {"disks": 1, "data": 1, "parity": 0}, {"disks": 4, "data": 1, "parity": 2}]):
+            chosen = seeded(seed)
+            machine = Powered(**more)
+            for call in warm_calls(chosen, light=True):
+                machine.do(*call)
+            for number in range(6):
+                for _ in range(3):
+                    machine.do(*file_call(chosen, light=True))
+                machine.do("sync")
+                # A commit that was cut leaves outdated disks.
+                images, allowed = copied(machine.images), list(machine.allowed)
+                if number % 2:
+                    machine.do("commit")
+                    images = cut_at(images, machine.requests, len(machine.requests) - 2, lambda: "lasts")
+                allowed = [full_model_state(model) for model in [*allowed, machine.model]]
+                machine.epoch += 1
+                _, mounting = mount(images, machine.epoch)
+                for left in cuts(images, mounting, chosen):
+                    self.assertIn(full_state(left, machine.epoch + 1), allowed)
+                machine.mount()
+                machine.allowed = [machine.model.mounted(0)]
 
     def test_going_on_behind_cuts(self):
         for seed in range(10, 18):
