@@ -142,7 +142,7 @@ def scan(store, root, low, high):
             pairs.extend([(entry[0], unpack(form_of(entry))) for entry in entries if low <= entry[0] < high])
         else:
             # The last one of the list is the next one to do.
-            todo.extend(reversed(children_between(entries, low, high)))
+            todo.extend(list(reversed(children_between(entries, low, high))))
     return pairs
 
 

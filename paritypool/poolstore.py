@@ -24,7 +24,7 @@ class PoolStore(Store):
     def commit(self, live):
         """Return the requests that write the new live blocks, and forget all blocks that are not live."""
         known = {pointer: True for pointer in live}
-        made = [*self._kept.items(), *self._memory.items()]
+        made = list(self._kept.items()) + list(self._memory.items())
         requests = super().commit(live)
         self._kept = {pointer: words for pointer, words in made if pointer in known}
         return requests

@@ -89,6 +89,11 @@ BUILTINS = set(
     " OverflowError RuntimeError NotImplementedError AttributeError StopIteration NotImplemented".split()
 )
 
+# What gives something to iterate over at once, and what iterates over its first argument (rule L23 of the language).
+GIVERS = ("zip", "enumerate", "reversed", "range")
+VIEWS = ("items", "keys", "values")
+TAKERS = ("list", "tuple", "dict", "sorted", "sum", "any", "all", "enumerate", "zip", "bytes")
+
 
 def load_tests(loader, tests, pattern):
     tests.addTests(doctest.DocFileSuite("interface_examples.txt", "../README.md"))
@@ -100,6 +105,28 @@ def sources():
     for path in sorted(PACKAGE.rglob("*.py")):
         text = path.read_bytes().decode("utf-8")
         yield path, text, ast.parse(text)
+
+
+def is_iterated_at_once(node):
+    """Whether rule L23 asks that what this expression gives is iterated on the spot."""
+    if not isinstance(node, ast.Call):
+        return False
+    if isinstance(node.func, ast.Attribute):
+        return node.func.attr in VIEWS
+    return isinstance(node.func, ast.Name) and node.func.id in GIVERS
+
+
+def iterated_by(node):
+    """The expressions that this part of a file iterates over on the spot."""
+    if isinstance(node, (ast.For, ast.comprehension)):
+        return [node.iter]
+    if not isinstance(node, ast.Call):
+        return []
+    if isinstance(node.func, ast.Attribute):
+        return node.args if node.func.attr == "join" and isinstance(node.func.value, ast.Constant) else []
+    name = node.func.id if isinstance(node.func, ast.Name) else ""
+    alone = name in ("min", "max") and len(node.args) == 1
+    return node.args[:1] if name in TAKERS or alone else []
 
 
 class Interface(unittest.TestCase):
@@ -181,6 +208,15 @@ class Files(unittest.TestCase):
             for node in ast.walk(tree):
                 if isinstance(node, ast.Name):
                     self.assertNotIn(node.id, barred, path)
+
+    def test_zips_ranges_and_views_are_iterated_at_once(self):
+        # The other places that the rule allows (kept ranges, `k in d.keys()` ..) do not occur in the package.
+        for path, _, tree in sources():
+            iterated = [each for node in ast.walk(tree) for each in iterated_by(node)]
+            for node in ast.walk(tree):
+                if is_iterated_at_once(node):
+                    with self.subTest(f"{path.name}, row {node.lineno}"):
+                        self.assertIn(node, iterated)
 
     def test_no_floats_and_no_barred_words(self):
         barred = (ast.Div, ast.Global, ast.AsyncFunctionDef)
